@@ -1,0 +1,1 @@
+"""Entries of a tournament: places, their offers and their fees."""
