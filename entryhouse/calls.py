@@ -1,10 +1,14 @@
 """The calls: each takes the house and its own numbers, and answers the list of what it tells."""
 
+from entryhouse.ledger import PAID, PAID_OUT, balance, sums
 from entryhouse.rules import first_fault, read_lines, rules_of
 from entryhouse.state import School
 
 MOST_BYTES = 1000
 MOST_SCHOOLS = 30
+MOST_NIGHTS = 30
+MOST_PAID = 1000000
+LAST_DAY = 1000
 
 # A refusal is answered as its number below 0.
 OUT_OF_BOUNDS = 1
@@ -98,8 +102,7 @@ def decline(house, number):
         return [-NOT_THERE]
     if house.closed:
         return [-CLOSED]
-    house.end_offer(offer)
-    offer.school.wanted -= 1
+    house.lose_offer(offer)
     return [offer.school.wanted, offer.school.number]
 
 
@@ -142,5 +145,106 @@ def transfer(house, a, b):
     return [giver.has]
 
 
+def pay(house, number, n):
+    school = house.schools.get(number)
+    if school is None:
+        return [-NOT_THERE]
+    if not 1 <= n <= MOST_PAID:
+        return [-OUT_OF_BOUNDS]
+    if not house.ledger.has_room(1):
+        return [-NO_ROOM]
+    house.ledger.write(school, PAID, n)
+    return [house.ledger.account_of(school)]
+
+
+def payout(house, number):
+    school = house.schools.get(number)
+    if school is None:
+        return [-NOT_THERE]
+    account = house.ledger.account_of(school)
+    if account <= 0:
+        return [-NOT_ENOUGH]
+    if not house.ledger.has_room(1):
+        return [-NO_ROOM]
+    house.ledger.write(school, PAID_OUT, account)
+    return [account]
+
+
+def night(house, n):
+    if not 1 <= n <= MOST_NIGHTS:
+        return [-OUT_OF_BOUNDS]
+    if house.day + n > LAST_DAY:
+        return [-NO_ROOM]
+    before = house.made
+    for passed in range(n):
+        house.pass_night()
+    row = []
+    for offer in house.offers.values():
+        if offer.number >= before:
+            row.extend([offer.number, offer.school.number, offer.day])
+    return [house.day] + row
+
+
+def close(house):
+    if house.closed:
+        return [-CLOSED]
+    if house.day < house.rules.one("start"):
+        return [-NOT_ENOUGH]
+    # Room for a fine of each school, whether or not it's fined.
+    if not house.ledger.has_room(len(house.schools)):
+        return [-NO_ROOM]
+    house.shut()
+    swing = -house.taken() % house.rules.one("form")
+    row = []
+    for school in house.schools.values():
+        row.extend([school.number, school.has, house.missing(school)])
+    return [house.taken(), 1, swing, len(row)] + row
+
+
+def tell_school(house, number):
+    school = house.schools.get(number)
+    if school is None:
+        return [-NOT_THERE]
+    return [school.has, school.wanted, school.offered, school.judges, house.rules.judges_owed(school.has)]
+
+
+def tell_account(house, number):
+    school = house.schools.get(number)
+    if school is None:
+        return [-NOT_THERE]
+    return [house.ledger.account_of(school)] + sums(house.ledger.entries_of(school))
+
+
+def tell_offers(house):
+    rows = [[offer.number, offer.school.number, offer.day, house.last_day(offer)] for offer in house.offers.values()]
+    # A single row stands to the end, several behind how many numbers each has.
+    if len(rows) == 1:
+        return [1] + rows[0]
+    told = [len(rows)]
+    for row in rows:
+        told.extend([len(row)] + row)
+    return told
+
+
+def tell_queue(house):
+    turns = house.turns()
+    return [len(turns)] + [school.number for school in turns]
+
+
+def tell_money(house):
+    entries = house.ledger.entries
+    return [balance(entries)] + sums(entries)
+
+
+def tell_counts(house):
+    closed = 1 if house.closed else 0
+    percent = house.rules.percent(house.day)
+    entries = len(house.ledger.entries)
+    return [house.day, len(house.schools), house.taken(), len(house.offers), house.made, closed, percent, entries]
+
+
 # Each stands at its call's number.
-CALLS = (clear, rules, show, enter, want, bring, accept, decline, drop, transfer)
+CALLS = (
+    clear, rules, show, enter, want, bring, accept, decline, drop, transfer, pay, payout, night, close,
+    tell_school, tell_account, tell_offers, tell_queue, tell_money, tell_counts,
+)

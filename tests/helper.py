@@ -6,6 +6,11 @@ from entryhouse.state import House
 
 CLEAR = [0]
 SHOW = [2]
+CLOSE = [13]
+OFFERS = [16]
+QUEUE = [17]
+MONEY = [18]
+COUNTS = [19]
 HUGE = 10 ** 18
 
 DEFAULT_ROW = [16, 4, 4, 1, 2, 1000, 500, 3, 60]
@@ -48,6 +53,31 @@ def transfer(a, b):
     return [9, a, b]
 
 
+def pay(number, n):
+    return [10, number, n]
+
+
+def payout(number):
+    return [11, number]
+
+
+def night(n):
+    return [12, n]
+
+
+def school(number):
+    return [14, number]
+
+
+def account(number):
+    return [15, number]
+
+
+def nights(n):
+    """So many nights, as few calls as they take."""
+    return [night(30)] * (n // 30) + ([night(n % 30)] if n % 30 > 0 else [])
+
+
 def flat(calls):
     return [number for call in calls for number in call]
 
@@ -66,6 +96,11 @@ def parted(answered):
 
 def ask(*calls):
     return parted(answers(flat(calls)))
+
+
+def last(*calls):
+    """What the last of these calls answers."""
+    return ask(*calls)[-1]
 
 
 def ask_on(house, *calls):
